@@ -210,11 +210,11 @@ func TestParseEventOfChangedTexts(t *testing.T) {
 	}
 }
 
-// TestApplyEvent holds ApplyEvent against the functions that it performs. Steps are left to chapter 11.
+// TestApplyEvent holds ApplyEvent against the functions that it performs.
 func TestApplyEvent(t *testing.T) {
 	succeeded := map[int]int{}
 	for i, e := range goodEngines() {
-		events := []impl.Event{admission(query(6, 1), 0), admission(query(i%24, 2, cond(1, 0, 5)), 32), admission(query(23, 0), 1)}
+		events := []impl.Event{admission(query(6, 1), 0), admission(query(i%24, 2, cond(1, 0, 5)), 32), admission(query(23, 0), 1), stepping(1), stepping(2 + i%9), stepping(100)}
 		for id := range 24 {
 			events = append(events, cancellation(id))
 		}
@@ -233,6 +233,9 @@ func TestApplyEvent(t *testing.T) {
 				want, wantOk = cancelledIn(e, x.Id)
 			case 3:
 				want, wantOk = engineUpdatedBy(e, x.Update)
+			case 4:
+				// It succeeds even if no step can be made.
+				want, wantOk = steppedTimes(e, x.Steps), true
 			}
 			got, ok := impl.ApplyEvent(e, x)
 			checkEngine(t, "ApplyEvent of "+eventDump(x), got, ok, want, wantOk)
@@ -241,7 +244,7 @@ func TestApplyEvent(t *testing.T) {
 			}
 		}
 	}
-	if succeeded[1] < 50 || succeeded[2] < 50 || succeeded[3] < 50 {
+	if succeeded[1] < 50 || succeeded[2] < 50 || succeeded[3] < 50 || succeeded[4] < 50 {
 		t.Errorf("too few events succeeded: %v", succeeded)
 	}
 }
@@ -264,7 +267,7 @@ func TestEventsAreLeftAlone(t *testing.T) {
 	broken := busyEngine()
 	broken.Cursor = 3
 	for _, plain := range []impl.Engine{busyEngine(), broken} {
-		for _, x := range []impl.Event{admission(query(6, 1, cond(0, 1, 2)), 3), admission(query(2, 1), 0), cancellation(5), cancellation(6), updating(insertOf(row(9, 1, 2, 3))), updating(setTo(1, 0, 8)), {}} {
+		for _, x := range []impl.Event{admission(query(6, 1, cond(0, 1, 2)), 3), admission(query(2, 1), 0), cancellation(5), cancellation(6), updating(insertOf(row(9, 1, 2, 3))), updating(setTo(1, 0, 8)), stepping(1), stepping(7), {}} {
 			e, x := roomy(plain), roomy(x)
 			before := wholeText(e) + wholeText(x)
 			got, _ := impl.ApplyEvent(e, x)
